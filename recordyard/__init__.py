@@ -1,0 +1,1 @@
+"""Recordyard: Python's logging, with its handlers and its settings."""

@@ -1,0 +1,43 @@
+"""Kinds of values: which ones are integers and names, and copies of objects of any kind."""
+
+LETTERS = "abcdefghijklmnopqrstuvwxyzABCDEFGHIJKLMNOPQRSTUVWXYZ"
+DIGITS = "0123456789"
+
+
+def is_integer(thing):
+    """Whether thing is an integer; True and False are none."""
+    return isinstance(thing, int) and not isinstance(thing, bool)
+
+
+def is_word_sign(sign):
+    """Whether a sign is one of those of which names consist."""
+    return sign in LETTERS or sign in DIGITS or sign == "_"
+
+
+def is_part(text):
+    """Whether text is a part of a logger's name."""
+    return text != "" and all(is_word_sign(sign) for sign in text)
+
+
+def is_dotted(thing):
+    """Whether thing is a string of parts with points between."""
+    return isinstance(thing, str) and all(is_part(part) for part in thing.split("."))
+
+
+def leading_name(text):
+    """The longest name of a field with which text begins, or an empty string."""
+    end = 0
+    while end < len(text) and is_word_sign(text[end]):
+        end += 1
+    return "" if text[:1] in DIGITS else text[:end]
+
+
+def own_copy(thing):
+    """A copy of an object of any kind that shares no list and no dict with it."""
+    if isinstance(thing, list):
+        return [own_copy(item) for item in thing]
+    if isinstance(thing, tuple):
+        return tuple([own_copy(item) for item in thing])
+    if isinstance(thing, dict):
+        return {key: own_copy(thing[key]) for key in thing}
+    return thing

@@ -1,0 +1,52 @@
+"""Levels, and the tables of their names that each yard has."""
+
+from recordyard.errors import BadLevel
+from recordyard.kinds import is_integer
+
+CRITICAL = 50
+ERROR = 40
+WARNING = 30
+INFO = 20
+DEBUG = 10
+NOTSET = 0
+
+FIRST_NAMES = {50: "CRITICAL", 40: "ERROR", 30: "WARNING", 20: "INFO", 10: "DEBUG", 0: "NOTSET"}
+FIRST_NUMBERS = {
+    "CRITICAL": 50,
+    "FATAL": 50,
+    "ERROR": 40,
+    "WARNING": 30,
+    "WARN": 30,
+    "INFO": 20,
+    "DEBUG": 10,
+    "NOTSET": 0,
+}
+
+
+class LevelTable:
+    """The two tables of a yard: from numbers to names, and from names to numbers."""
+
+    def __init__(self):
+        self.names = dict(FIRST_NAMES)
+        self.numbers = dict(FIRST_NUMBERS)
+
+    def add_level_name(self, level, name):
+        """Set both tables; a name that this number had before still leads to it."""
+        self.names[level] = name
+        self.numbers[name] = level
+
+    def level_name(self, level):
+        """The name of a number, which may be an empty one."""
+        return self.names.get(level, f"Level {level}")
+
+    def level_names(self):
+        """The dict from names to numbers."""
+        return dict(self.numbers)
+
+    def number(self, level):
+        """The number for which a level stands that is passed as one or by its name."""
+        if is_integer(level):
+            return level
+        if isinstance(level, str) and level in self.numbers:
+            return self.numbers[level]
+        raise BadLevel(level)

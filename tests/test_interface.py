@@ -1,0 +1,77 @@
+"""The last section of the document: names, arguments and files; and what holds for modules and classes."""
+
+import ast
+import importlib
+import inspect
+import pathlib
+import unittest
+
+from recordyard.adapters import LoggerAdapter
+from recordyard.filters import Filter
+from recordyard.formatters import Formatter
+from tests.standins import StandIn
+
+PACKAGE = pathlib.Path(__file__).resolve().parent.parent / "recordyard"
+LOGGING = {word: "(self, msg, args=(), extra=None)" for word in ("debug", "info", "warning", "error", "critical")}
+LOGGING["log"] = "(self, level, msg, args=(), extra=None)"
+INTERFACE = {
+    "records": {"LogRecord": {"field": "(self, name)", "message": "(self)"}},
+    "formatters": {"Formatter": {
+        "__init__": "(self, fmt=None, style='{', validate=True, defaults=None)", "formatted": "(self, record)",
+        "uses_time": "(self)", "fields": "(self)",
+    }},
+    "filters": {"Filter": {"__init__": "(self, name='')", "passes": "(self, record)"}},
+    "loggers": {"Logger": {
+        **LOGGING, "setLevel": "(self, level)", "setPropagate": "(self, flag)", "setDisabled": "(self, flag)",
+        "getChild": "(self, suffix)", "getChildren": "(self)", "getEffectiveLevel": "(self)", "isEnabledFor": "(self, level)",
+        "addHandler": "(self, handler)", "removeHandler": "(self, handler)", "hasHandlers": "(self)", "addFilter": "(self, one)",
+        "removeFilter": "(self, one)", "filtered": "(self, record)", "handle": "(self, record)",
+    }},
+    "adapters": {"LoggerAdapter": {
+        **LOGGING, "__init__": "(self, logger, extra=None, merge_extra=False)", "isEnabledFor": "(self, level)",
+        "setLevel": "(self, level)", "getEffectiveLevel": "(self)", "hasHandlers": "(self)",
+    }},
+}
+ATTRIBUTES = {
+    "LogRecord": ["name", "levelno", "levelname", "msg", "given", "created", "extra"],
+    "Filter": ["name"],
+    "Logger": ["yard", "name", "level", "propagate", "disabled", "handlers", "filters", "parent"],
+    "LoggerAdapter": ["name"],
+}
+
+
+def imports(path):
+    """The modules of the package that a file imports from."""
+    tree = ast.parse(path.read_text())
+    return [node.module.split(".")[1] for node in ast.walk(tree) if isinstance(node, ast.ImportFrom)
+            and node.module.startswith("recordyard.")]
+
+
+class Interface(unittest.TestCase):
+    def test_each_class_and_method_stands_where_it_is_listed(self):
+        for module, classes in INTERFACE.items():
+            for name, methods in classes.items():
+                listed = getattr(importlib.import_module("recordyard." + module), name)
+                self.assertEqual(listed.__module__, "recordyard." + module)
+                for method, told in methods.items():
+                    self.assertIn(method, vars(listed))
+                    self.assertEqual(str(inspect.signature(vars(listed)[method])), told, name + "." + method)
+
+    def test_attributes_are_set_when_an_object_is_made(self):
+        yard = StandIn()
+        things = [yard.make_record("a", 20, "m"), Filter(), yard.root, yard.getLogger("a"), LoggerAdapter(yard.root)]
+        for thing in things:
+            for name in ATTRIBUTES[type(thing).__name__]:
+                self.assertIn(name, vars(thing))
+
+    def test_objects_are_equal_only_to_themselves(self):
+        for thing in (StandIn().make_record("a", 20, "m"), Filter(), Formatter(), StandIn().root, LoggerAdapter(StandIn().root)):
+            self.assertIs(type(thing).__eq__, object.__eq__)
+
+    def test_modules_do_not_import_one_another_in_a_circle(self):
+        needed = {path.stem: imports(path) for path in PACKAGE.glob("*.py")}
+        while needed:
+            free = [name for name in needed if not any(other in needed for other in needed[name])]
+            self.assertNotEqual(free, [], needed)
+            for name in free:
+                del needed[name]
