@@ -8,7 +8,7 @@ DAYS_OF_MONTHS = (31, 28, 31, 30, 31, 30, 31, 31, 30, 31, 30, 31)
 class Clock:
     """Shows milliseconds from the beginning of 1970, and only moves when it is told to."""
 
-    def __init__(self, shown=0):
+    def __init__(self, shown):
         self.shown = shown
 
     def now(self):
