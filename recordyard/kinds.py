@@ -34,10 +34,15 @@ def leading_name(text):
 
 def own_copy(thing):
     """A copy of an object of any kind that shares no list and no dict with it."""
-    if isinstance(thing, list):
-        return [own_copy(item) for item in thing]
-    if isinstance(thing, tuple):
-        return tuple([own_copy(item) for item in thing])
+    # Loops, as a comprehension would take two calls for each level of what is nested deep.
     if isinstance(thing, dict):
-        return {key: own_copy(thing[key]) for key in thing}
+        table = {}
+        for key in thing:
+            table[key] = own_copy(thing[key])
+        return table
+    if isinstance(thing, (list, tuple)):
+        row = []
+        for item in thing:
+            row.append(own_copy(item))
+        return row if isinstance(thing, list) else tuple(row)
     return thing

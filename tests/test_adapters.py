@@ -4,17 +4,18 @@ import unittest
 
 from recordyard.adapters import LoggerAdapter
 from recordyard.errors import BadExtra, BadLevel
-from tests.standins import Keeper, StandIn
+from recordyard.yards import Yard
+from tests.helpers import keeper
 
 FIVE = (("debug", 10), ("info", 20), ("warning", 30), ("error", 40), ("critical", 50))
 
 
 class Adapters(unittest.TestCase):
     def setUp(self):
-        self.yard = StandIn()
+        self.yard = Yard()
         self.logger = self.yard.getLogger("a.b")
         self.logger.setLevel(1)
-        self.keeper = Keeper()
+        self.keeper = keeper(self.yard)
         self.logger.addHandler(self.keeper)
 
     def told(self, adapter, *call):
@@ -61,7 +62,7 @@ class Adapters(unittest.TestCase):
             self.assertEqual(self.told(outer, None), {})
 
     def test_log_and_the_five_methods(self):
-        self.yard.clock.advance(3)
+        self.yard.advance(3)
         adapter = LoggerAdapter(self.logger, {"k": 1}, True)
         for word, level in FIVE:
             self.assertIsNone(getattr(adapter, word)("{}", (word,), {"x": 2}))

@@ -4,7 +4,7 @@ import inspect
 import unittest
 
 from recordyard import errors
-from tests.standins import objects
+from tests.helpers import objects
 
 FIELDS = {
     "BadLevel": "level",

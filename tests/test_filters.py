@@ -3,23 +3,12 @@
 import unittest
 
 from recordyard.filters import Filter
-from tests.standins import StandIn, objects
-
-
-class Asked:
-    """A function that keeps what it is asked, and tells what it is told to tell."""
-
-    def __init__(self, told):
-        self.told = told
-        self.records = []
-
-    def __call__(self, record):
-        self.records.append(record)
-        return self.told
+from recordyard.yards import Yard
+from tests.helpers import Asked, objects
 
 
 def record_of(name):
-    return StandIn().make_record(name, 20, "m")
+    return Yard().make_record(name, 20, "m")
 
 
 class Filters(unittest.TestCase):
@@ -48,7 +37,7 @@ class Filters(unittest.TestCase):
 
 class Lists(unittest.TestCase):
     def setUp(self):
-        self.yard = StandIn()
+        self.yard = Yard()
         self.logger = self.yard.getLogger("a")
         self.record = self.yard.make_record("a", 20, "m")
 
@@ -99,7 +88,7 @@ class Lists(unittest.TestCase):
 
     def test_functions_that_tell_something_true_or_not(self):
         for told in objects():
-            logger = StandIn().getLogger("a")
+            logger = Yard().getLogger("a")
             logger.addFilter(Asked(told))
             self.assertIs(logger.filtered(self.record), self.record if told else None)
 

@@ -5,13 +5,14 @@ import unittest
 
 from recordyard.errors import BadField, BadFormat, BadMessage, BadStyle
 from recordyard.formatters import Formatter
-from tests.standins import StandIn, objects
+from recordyard.yards import Yard
+from tests.helpers import objects
 
 BOTH = ("{", "$")
 
 
 def record_of(extra=None, msg="m", args=(), now=0, name="a.b", level=20):
-    return StandIn(now).make_record(name, level, msg, args, extra)
+    return Yard(now).make_record(name, level, msg, args, extra)
 
 
 def shown(fmt, value, style="{"):

@@ -9,11 +9,17 @@ import unittest
 from recordyard.adapters import LoggerAdapter
 from recordyard.filters import Filter
 from recordyard.formatters import Formatter
-from tests.standins import StandIn
+from recordyard.yards import Yard
+from tests.helpers import one_of_each
 
 PACKAGE = pathlib.Path(__file__).resolve().parent.parent / "recordyard"
 LOGGING = {word: "(self, msg, args=(), extra=None)" for word in ("debug", "info", "warning", "error", "critical")}
 LOGGING["log"] = "(self, level, msg, args=(), extra=None)"
+HANDLING = {
+    "setLevel": "(self, level)", "setFormatter": "(self, formatter)", "setTerminator": "(self, text)", "setName": "(self, name)",
+    "addFilter": "(self, one)", "removeFilter": "(self, one)", "filtered": "(self, record)", "handle": "(self, record)",
+    "formatted": "(self, record)", "flush": "(self)", "close": "(self)",
+}
 INTERFACE = {
     "records": {"LogRecord": {"field": "(self, name)", "message": "(self)"}},
     "formatters": {"Formatter": {
@@ -31,12 +37,34 @@ INTERFACE = {
         **LOGGING, "__init__": "(self, logger, extra=None, merge_extra=False)", "isEnabledFor": "(self, level)",
         "setLevel": "(self, level)", "getEffectiveLevel": "(self)", "hasHandlers": "(self)",
     }},
+    "handlers": {
+        "StreamHandler": {**HANDLING, "__init__": "(self, yard, stream='stderr')", "setStream": "(self, stream)"},
+        "NullHandler": {**HANDLING, "__init__": "(self, yard)"},
+    },
+    "yards": {"Yard": {
+        "__init__": "(self, now=0)", "now": "(self)", "advance": "(self, milliseconds)", "text": "(self, stream)", "streams": "(self)",
+        "files": "(self)", "put_file": "(self, name, text)", "remove_file": "(self, name)", "add_level_name": "(self, level, name)",
+        "level_name": "(self, level)", "level_names": "(self)", "make_record": "(self, name, level, msg, args=(), extra=None)",
+        "getLogger": "(self, name='')", "loggers": "(self)", "disable": "(self, level=50)", "bar": "(self)",
+        "getHandlerByName": "(self, name)", "getHandlerNames": "(self)", "failures": "(self)", "shutdown": "(self)",
+    }},
+    "files": {"FileHandler": {**HANDLING, "__init__": "(self, yard, filename, mode='a', delay=False)"}},
+    "rotating": {"RotatingFileHandler": {
+        **HANDLING, "__init__": "(self, yard, filename, mode='a', maxBytes=0, backupCount=0, delay=False)",
+        "shouldRollover": "(self, record)", "doRollover": "(self)", "setNamer": "(self, function)",
+    }},
 }
+COMMON = ["yard", "level", "formatter", "filters", "name", "terminator"]
 ATTRIBUTES = {
     "LogRecord": ["name", "levelno", "levelname", "msg", "given", "created", "extra"],
     "Filter": ["name"],
     "Logger": ["yard", "name", "level", "propagate", "disabled", "handlers", "filters", "parent"],
     "LoggerAdapter": ["name"],
+    "Yard": ["root"],
+    "StreamHandler": COMMON + ["stream"],
+    "NullHandler": COMMON,
+    "FileHandler": COMMON + ["filename"],
+    "RotatingFileHandler": COMMON + ["filename"],
 }
 
 
@@ -57,15 +85,20 @@ class Interface(unittest.TestCase):
                     self.assertIn(method, vars(listed))
                     self.assertEqual(str(inspect.signature(vars(listed)[method])), told, name + "." + method)
 
+    def things(self):
+        yard = Yard()
+        things = [yard, yard.make_record("a", 20, "m"), Filter(), yard.root, yard.getLogger("a"), LoggerAdapter(yard.root)]
+        return things + one_of_each(yard)
+
     def test_attributes_are_set_when_an_object_is_made(self):
-        yard = StandIn()
-        things = [yard.make_record("a", 20, "m"), Filter(), yard.root, yard.getLogger("a"), LoggerAdapter(yard.root)]
+        things = self.things()
+        self.assertEqual({type(thing).__name__ for thing in things}, set(ATTRIBUTES))
         for thing in things:
             for name in ATTRIBUTES[type(thing).__name__]:
                 self.assertIn(name, vars(thing))
 
     def test_objects_are_equal_only_to_themselves(self):
-        for thing in (StandIn().make_record("a", 20, "m"), Filter(), Formatter(), StandIn().root, LoggerAdapter(StandIn().root)):
+        for thing in self.things() + [Formatter()]:
             self.assertIs(type(thing).__eq__, object.__eq__)
 
     def test_modules_do_not_import_one_another_in_a_circle(self):

@@ -21,7 +21,7 @@ NODES = (
 )
 BUILTINS = set(
     "len range enumerate zip min max sum abs sorted reversed int str bool list tuple dict set isinstance ord repr any all divmod "
-    "Exception ValueError TypeError KeyError IndexError LookupError ZeroDivisionError RuntimeError object".split()
+    "Exception ValueError TypeError KeyError IndexError LookupError ZeroDivisionError RuntimeError object super".split()
 )
 METHODS = set(
     "append clear copy count endswith extend find get index insert isalnum isalpha isdigit islower isspace isupper items join keys "
@@ -36,13 +36,12 @@ BARRED_FILES = set("test tests testing site conftest sitecustomize usercustomize
 BARRED_NAMES = set("_cold _tuplegetter _outside _record _written_out _member_names".split())
 
 
-def trees():
-    return {path.name: ast.parse(path.read_text()) for path in FILES}
+TREES = {path.name: ast.parse(path.read_text()) for path in FILES}
 
 
 def nodes(*kinds):
     """All nodes of these kinds in the package, with the name of their file and their line."""
-    for name, tree in trees().items():
+    for name, tree in TREES.items():
         for node in ast.walk(tree):
             if isinstance(node, kinds):
                 yield name + ":" + str(getattr(node, "lineno", 0)), node
@@ -122,8 +121,12 @@ class Names(unittest.TestCase):
             stored = {node.attr for node in ast.walk(one) if isinstance(node, ast.Attribute) and isinstance(node.ctx, ast.Store)}
             self.assertEqual(names & stored, set(), where)
 
+    def test_no_attribute_has_the_name_of_a_method(self):
+        # L18 allows a few; without any it is plain what is called.
+        self.assertEqual(methods() & assigned_attributes(), set())
+
     def test_local_names_do_not_hide_those_of_the_file(self):
-        for name, tree in trees().items():
+        for name, tree in TREES.items():
             outer = {part.name for part in tree.body if isinstance(part, ast.ClassDef)}
             for part in tree.body:
                 if isinstance(part, ast.ImportFrom):
@@ -144,7 +147,7 @@ class Names(unittest.TestCase):
 
 class Statements(unittest.TestCase):
     def test_kinds_of_statements_and_expressions(self):
-        for name, tree in trees().items():
+        for name, tree in TREES.items():
             for node in ast.walk(tree):
                 self.assertIsInstance(node, NODES, name)
         for where, node in nodes(ast.BinOp):
@@ -153,7 +156,7 @@ class Statements(unittest.TestCase):
             self.assertNotIsInstance(node.value, (float, complex, bytes), where)
 
     def test_module_level(self):
-        for name, tree in trees().items():
+        for name, tree in TREES.items():
             for number, part in enumerate(tree.body):
                 docstring = number == 0 and isinstance(part, ast.Expr) and isinstance(part.value, ast.Constant)
                 self.assertTrue(docstring or isinstance(part, (ast.ImportFrom, ast.FunctionDef, ast.ClassDef, ast.Assign)), name)
@@ -174,7 +177,7 @@ class Statements(unittest.TestCase):
                 self.assertIsNone(alias.asname, where)
 
     def test_no_import_is_left_over(self):
-        for name, tree in trees().items():
+        for name, tree in TREES.items():
             read = {node.id for node in ast.walk(tree) if isinstance(node, ast.Name)}
             for part in tree.body:
                 if isinstance(part, ast.ImportFrom):
@@ -186,13 +189,30 @@ class Statements(unittest.TestCase):
             self.assertTrue(ast.get_docstring(node) or node.name in DOUBLES, where)
 
     def test_names_that_are_read_are_known(self):
-        for name, tree in trees().items():
+        for name, tree in TREES.items():
             bound = {node.id for node in ast.walk(tree) if isinstance(node, ast.Name) and isinstance(node.ctx, ast.Store)}
             bound |= {node.arg for node in ast.walk(tree) if isinstance(node, ast.arg)}
             bound |= {node.name for node in ast.walk(tree) if isinstance(node, (ast.FunctionDef, ast.ClassDef, ast.alias))}
             for node in ast.walk(tree):
                 if isinstance(node, ast.Name) and isinstance(node.ctx, ast.Load):
                     self.assertIn(node.id, bound | BUILTINS, name)
+
+    def test_super_stands_in_calls_of_the_method_that_it_stands_in(self):
+        told = []
+        for where, function in nodes(ast.FunctionDef):
+            for node in ast.walk(function):
+                if isinstance(node, ast.Call) and isinstance(node.func, ast.Attribute) and isinstance(node.func.value, ast.Call):
+                    inner = node.func.value
+                    if isinstance(inner.func, ast.Name) and inner.func.id == "super":
+                        self.assertEqual((inner.args, node.func.attr), ([], function.name), where)
+                        told.append(inner.func)
+        for where, node in nodes(ast.Name):
+            self.assertTrue(node.id != "super" or node in told, where)
+
+    def test_no_method_is_read_off_a_class(self):
+        classes = {one.name for _, one in nodes(ast.ClassDef)}
+        for where, node in nodes(ast.Attribute):
+            self.assertFalse(isinstance(node.value, ast.Name) and node.value.id in classes, where)
 
     def test_is_stands_beside_none_true_and_false(self):
         for where, node in nodes(ast.Compare):

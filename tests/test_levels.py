@@ -5,7 +5,7 @@ import unittest
 from recordyard import levels
 from recordyard.errors import BadLevel
 from recordyard.levels import LevelTable
-from tests.standins import objects
+from tests.helpers import objects
 
 FIRST = {
     "CRITICAL": 50, "FATAL": 50, "ERROR": 40, "WARNING": 30, "WARN": 30, "INFO": 20, "DEBUG": 10, "NOTSET": 0,

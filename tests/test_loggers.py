@@ -5,7 +5,8 @@ import unittest
 from recordyard.errors import BadExtra, BadLevel, BadMessage, BadName
 from recordyard.filters import Filter
 from recordyard.loggers import Logger
-from tests.standins import Keeper, StandIn, objects
+from recordyard.yards import Yard
+from tests.helpers import keeper, objects
 
 FIVE = (("debug", 10), ("info", 20), ("warning", 30), ("error", 40), ("critical", 50))
 WRONG_PARTS = [
@@ -16,7 +17,7 @@ WRONG_PARTS = [
 
 class WithYard(unittest.TestCase):
     def setUp(self):
-        self.yard = StandIn()
+        self.yard = Yard()
         self.root = self.yard.root
 
     def get(self, *names):
@@ -25,14 +26,14 @@ class WithYard(unittest.TestCase):
 
 class Names(WithYard):
     def test_a_new_yard_has_the_root_alone(self):
-        self.assertEqual(self.yard.tree.loggers(), [])
+        self.assertEqual(self.yard.loggers(), [])
         self.assertEqual(self.root.name, "root")
 
     def test_names_of_the_root(self):
-        self.assertIs(self.yard.tree.getLogger(), self.root)
+        self.assertIs(self.yard.getLogger(), self.root)
         for name in ("", "root"):
-            self.assertIs(self.yard.tree.getLogger(name=name), self.root)
-        self.assertEqual(self.yard.tree.loggers(), [])
+            self.assertIs(self.yard.getLogger(name=name), self.root)
+        self.assertEqual(self.yard.loggers(), [])
 
     def test_the_same_logger_for_the_same_name(self):
         for name in ("a", "Z9_", "_", "0", "9a", "a.b", "a.b.c", "A", "root.a", "roots", "a.root", "1.2.3", "a.b.c.d.e.f.g.h"):
@@ -46,18 +47,18 @@ class Names(WithYard):
         loggers = self.get("a", "A", "a.b", "b", "root.a", "")
         for one in loggers:
             self.assertEqual([one == other for other in loggers].count(True), 1)
-        self.assertIsNot(StandIn().getLogger("a"), loggers[0])
+        self.assertIsNot(Yard().getLogger("a"), loggers[0])
 
     def test_loggers_are_told_ascending_without_the_root(self):
         self.get("b", "a.c", "", "a", "B", "root", "root.a", "_", "9", "a.b", "b", "a_")
         names = ["9", "B", "_", "a", "a.b", "a.c", "a_", "b", "root.a"]
-        self.assertEqual(self.yard.tree.loggers(), names)
-        self.yard.tree.loggers().clear()
-        self.assertEqual(self.yard.tree.loggers(), names)
+        self.assertEqual(self.yard.loggers(), names)
+        self.yard.loggers().clear()
+        self.assertEqual(self.yard.loggers(), names)
 
     def test_gaps_are_no_loggers(self):
         self.get("a.b.c")
-        self.assertEqual(self.yard.tree.loggers(), ["a.b.c"])
+        self.assertEqual(self.yard.loggers(), ["a.b.c"])
 
     def test_wrong_names(self):
         wrong = [thing for thing in objects() if not isinstance(thing, str)]
@@ -65,7 +66,7 @@ class Names(WithYard):
             with self.assertRaises(BadName) as caught:
                 self.yard.getLogger(name)
             self.assertIs(caught.exception.name, name)
-        self.assertEqual(self.yard.tree.loggers(), [])
+        self.assertEqual(self.yard.loggers(), [])
 
 
 class Attributes(WithYard):
@@ -83,20 +84,20 @@ class Attributes(WithYard):
 
     def test_loggers_share_nothing(self):
         one, other = self.get("a", "a.b")
-        one.addHandler(Keeper())
+        one.addHandler(keeper(self.yard))
         one.addFilter(Filter())
         self.assertEqual((other.handlers, other.filters, self.root.handlers, self.root.filters), ([], [], [], []))
 
     def test_set_level(self):
-        self.yard.levels.add_level_name(25, "NOTE")
+        self.yard.add_level_name(25, "NOTE")
         for logger in (self.root, self.yard.getLogger("a")):
             for level, number in ((5, 5), ("NOTE", 25), (-3, -3), ("WARN", 30), (0, 0), ("NOTSET", 0), ("FATAL", 50)):
                 self.assertIsNone(logger.setLevel(level))
                 self.assertEqual(logger.level, number)
             logger.setLevel(level="INFO")
-            self.yard.levels.add_level_name(21, "INFO")
+            self.yard.add_level_name(21, "INFO")
             self.assertEqual(logger.level, 20)
-            self.yard.levels.add_level_name(20, "INFO")
+            self.yard.add_level_name(20, "INFO")
 
     def test_set_level_refuses_other_objects(self):
         logger = self.yard.getLogger("a")
@@ -120,7 +121,7 @@ class Attributes(WithYard):
 
 class Parents(WithYard):
     def parents(self):
-        loggers = self.get(*self.yard.tree.loggers())
+        loggers = self.get(*self.yard.loggers())
         return {logger.name: logger.parent.name for logger in loggers}
 
     def test_without_gaps(self):
@@ -164,7 +165,7 @@ class Parents(WithYard):
         expected = {"a": "root", "a.b": "a", "a.b.c": "a.b", "a.b.c.d": "a.b.c", "ab": "root", "ab.c.d": "ab", "b.c": "root"}
         for turn in range(7):
             for order in (names[turn:] + names[:turn], names[turn::-1] + names[:turn:-1]):
-                self.yard = StandIn()
+                self.yard = Yard()
                 self.get(*order)
                 self.assertEqual(self.parents(), expected)
 
@@ -184,14 +185,14 @@ class Children(WithYard):
         self.assertIs(one.getChild(suffix="b"), child)
         self.assertEqual(one.getChild("b.c.d").name, "a.b.c.d")
         self.assertEqual(child.getChild("root").name, "a.b.root")
-        self.assertEqual(self.yard.tree.loggers(), ["a", "a.b", "a.b.c.d", "a.b.root"])
+        self.assertEqual(self.yard.loggers(), ["a", "a.b", "a.b.c.d", "a.b.root"])
 
     def test_get_child_of_the_root(self):
         self.assertIs(self.root.getChild("a.b"), self.yard.getLogger("a.b"))
         for suffix in ("", "root"):
             self.assertIs(self.root.getChild(suffix), self.root)
         self.assertEqual(self.root.getChild("root.a").name, "root.a")
-        self.assertEqual(self.yard.tree.loggers(), ["a.b", "root.a"])
+        self.assertEqual(self.yard.loggers(), ["a.b", "root.a"])
 
     def test_wrong_suffixes(self):
         wrong = [thing for thing in objects() if not isinstance(thing, str)] + WRONG_PARTS
@@ -200,7 +201,7 @@ class Children(WithYard):
                 with self.assertRaises(BadName) as caught:
                     logger.getChild(suffix)
                 self.assertIs(caught.exception.name, suffix)
-        self.assertEqual(self.yard.tree.loggers(), ["a"])
+        self.assertEqual(self.yard.loggers(), ["a"])
 
     def test_get_children(self):
         self.get("b", "a.c", "a.b", "a", "a.b.c", "a.d.e", "ab.c", "x.y", "root.a", "a.B", "roots", "c")
@@ -217,7 +218,7 @@ class Children(WithYard):
         self.get("a.b.c")
         self.assertEqual(self.root.getChildren(), [])
         self.assertEqual(self.yard.getLogger("a").getChildren(), [])
-        self.assertEqual(self.yard.tree.loggers(), ["a", "a.b.c"])
+        self.assertEqual(self.yard.loggers(), ["a", "a.b.c"])
 
     def test_a_child_of_the_root_may_begin_with_the_word_root(self):
         self.get("root.a.b", "root.a")
@@ -261,34 +262,34 @@ class Levels(WithYard):
         self.assertIs(one.isEnabledFor(level=1000), True)
 
     def test_the_bar(self):
-        self.assertEqual(self.yard.tree.bar(), 0)
+        self.assertEqual(self.yard.bar(), 0)
         one = self.yard.getLogger("a")
         one.setLevel(5)
         for bar in (4, 5, 6, 30):
-            self.assertIsNone(self.yard.tree.disable(bar))
-            self.assertEqual(self.yard.tree.bar(), bar)
+            self.assertIsNone(self.yard.disable(bar))
+            self.assertEqual(self.yard.bar(), bar)
             for level in (3, 4, 5, 6, 7, 29, 30, 31):
                 self.assertIs(one.isEnabledFor(level), level > bar and level >= 5)
-        self.yard.tree.disable()
-        self.assertEqual(self.yard.tree.bar(), 50)
+        self.yard.disable()
+        self.assertEqual(self.yard.bar(), 50)
         self.assertEqual([self.root.isEnabledFor(level) for level in (49, 50, 51)], [False, False, True])
-        self.yard.tree.disable(level="INFO")
-        self.assertEqual(self.yard.tree.bar(), 20)
+        self.yard.disable(level="INFO")
+        self.assertEqual(self.yard.bar(), 20)
 
     def test_a_bar_below_zero(self):
         one = self.yard.getLogger("a")
         one.setLevel(-10)
         self.assertEqual([one.isEnabledFor(level) for level in (-10, 0, 1)], [False, False, True])
-        self.yard.tree.disable(-5)
+        self.yard.disable(-5)
         self.assertEqual([one.isEnabledFor(level) for level in (-6, -5, -4, 0)], [False, False, True, True])
 
     def test_the_bar_refuses_what_is_no_level(self):
-        self.yard.tree.disable(7)
+        self.yard.disable(7)
         for level in [thing for thing in objects() if type(thing) is not int] + ["low"]:
             with self.assertRaises(BadLevel) as caught:
-                self.yard.tree.disable(level)
+                self.yard.disable(level)
             self.assertIs(caught.exception.level, level)
-            self.assertEqual(self.yard.tree.bar(), 7)
+            self.assertEqual(self.yard.bar(), 7)
 
     def test_disabled(self):
         one, other = self.get("a", "a.b")
@@ -307,43 +308,43 @@ class Levels(WithYard):
         told.append(one.isEnabledFor(20))
         one.setLevel(0)
         told.append(one.isEnabledFor(20))
-        self.yard.tree.disable(20)
+        self.yard.disable(20)
         told.append(one.isEnabledFor(20))
-        self.yard.tree.disable(19)
+        self.yard.disable(19)
         told.append(one.isEnabledFor(20))
         self.assertEqual(told, [False, True, False, True, False, True])
 
 
 class Handlers(WithYard):
     def test_putting_and_taking(self):
-        one, a, b, c = self.yard.getLogger("a"), Keeper(), Keeper(), Keeper()
+        one, a, b, c = self.yard.getLogger("a"), keeper(self.yard), keeper(self.yard), keeper(self.yard)
         for handler in (a, b, a, c, b):
             self.assertIsNone(one.addHandler(handler))
         self.assertEqual(one.handlers, [a, b, c])
         self.assertIsNone(one.removeHandler(b))
         one.removeHandler(b)
-        one.removeHandler(handler=Keeper())
+        one.removeHandler(handler=keeper(self.yard))
         self.assertEqual(one.handlers, [a, c])
         one.addHandler(handler=b)
         self.assertEqual(one.handlers, [a, c, b])
 
     def test_has_handlers(self):
         a, b, c = self.get("a", "a.b", "a.b.c")
-        keeper = Keeper(10 ** 18)
+        one = keeper(self.yard, 10 ** 18)
         self.assertEqual([logger.hasHandlers() for logger in (self.root, a, b, c)], [False] * 4)
         for holder, expected in ((c, (0, 0, 0, 1)), (b, (0, 0, 1, 1)), (a, (0, 1, 1, 1)), (self.root, (1, 1, 1, 1))):
-            holder.addHandler(keeper)
+            holder.addHandler(one)
             told = [logger.hasHandlers() for logger in (self.root, a, b, c)]
             self.assertEqual(told, [bool(flag) for flag in expected])
-            holder.removeHandler(keeper)
-        a.addHandler(keeper)
+            holder.removeHandler(one)
+        a.addHandler(one)
         b.setPropagate(False)
         self.assertEqual([logger.hasHandlers() for logger in (self.root, a, b, c)], [False, True, False, False])
-        c.addHandler(keeper)
+        c.addHandler(one)
         self.assertIs(c.hasHandlers(), True)
 
     def test_what_the_root_says_of_propagating_does_not_matter(self):
-        self.root.addHandler(Keeper())
+        self.root.addHandler(keeper(self.yard))
         self.root.setPropagate(False)
         self.assertIs(self.yard.getLogger("a").hasHandlers(), True)
         self.assertIs(self.root.hasHandlers(), True)
@@ -356,12 +357,12 @@ class Reaching(WithYard):
         self.loggers = self.get("", "a", "a.b", "a.b.c")
         for logger, word in zip(self.loggers, "ravc"):
             for number in "12":
-                logger.addHandler(Keeper(0, self.kept, word + number))
+                logger.addHandler(keeper(self.yard, 0, self.kept, word + number))
 
     def reached(self, name, level=50):
         del self.kept[:]
         self.yard.getLogger(name).log(level, "m")
-        return " ".join(word for word, _ in self.kept)
+        return " ".join(self.kept)
 
     def test_all_up_to_the_root_in_their_order(self):
         self.assertEqual(self.reached("a.b.c"), "c1 c2 v1 v2 a1 a2 r1 r2")
@@ -392,9 +393,9 @@ class Reaching(WithYard):
         self.assertEqual(self.reached("a.b.c", 1), "c1 c2 v1 v2 a1 a2 r1 r2")
 
     def test_levels_of_handlers(self):
-        self.loggers[3].handlers[1].level = 20
-        self.loggers[1].handlers[0].level = 21
-        self.loggers[0].handlers[0].level = 19
+        self.loggers[3].handlers[1].setLevel(20)
+        self.loggers[1].handlers[0].setLevel(21)
+        self.loggers[0].handlers[0].setLevel(19)
         self.loggers[0].setLevel(1)
         self.assertEqual(self.reached("a.b.c", 20), "c1 c2 v1 v2 a2 r1 r2")
         self.assertEqual(self.reached("a.b.c", 19), "c1 v1 v2 a2 r1 r2")
@@ -417,14 +418,14 @@ class Logging(WithYard):
     def setUp(self):
         WithYard.setUp(self)
         self.logger = self.yard.getLogger("a.b")
-        self.keeper = Keeper(-10 ** 18)
+        self.keeper = keeper(self.yard, -10 ** 18)
         self.logger.addHandler(self.keeper)
 
     def last(self):
         return self.keeper.records[-1]
 
     def test_the_record_that_is_made(self):
-        self.yard.clock.advance(777)
+        self.yard.advance(777)
         self.assertIsNone(self.logger.log(30, "{}-{}", (1, [2]), {"k": {"in": 1}}))
         one = self.last()
         told = (one.name, one.levelno, one.levelname, one.msg, one.given, one.created, one.extra, one.message())
@@ -510,7 +511,7 @@ class Logging(WithYard):
         self.assertEqual((self.last().message(), self.last().extra), ("[1]", {"k": [2]}))
 
     def test_the_bar_and_disabled_hold_back(self):
-        self.yard.tree.disable(40)
+        self.yard.disable(40)
         self.logger.error("m")
         self.logger.setDisabled(True)
         self.logger.critical("m")
@@ -524,13 +525,13 @@ class Handling(WithYard):
     def setUp(self):
         WithYard.setUp(self)
         self.logger = self.yard.getLogger("a")
-        self.keeper = Keeper()
+        self.keeper = keeper(self.yard)
         self.logger.addHandler(self.keeper)
         self.record = self.yard.make_record("x.y", 5, "m")
 
     def test_levels_and_the_bar_are_not_looked_at(self):
         self.logger.setLevel(40)
-        self.yard.tree.disable(50)
+        self.yard.disable(50)
         self.assertIsNone(self.logger.handle(record=self.record))
         self.assertEqual(self.keeper.records, [self.record])
 
@@ -549,65 +550,90 @@ class Handling(WithYard):
 
     def test_filters_may_put_another_record_in_the_place(self):
         other = self.yard.make_record("z", 7, "other")
-        self.keeper.level = 7
+        self.keeper.setLevel(7)
         self.logger.addFilter(lambda record: other)
         self.logger.handle(self.record)
         self.assertEqual(self.keeper.records, [other])
-        self.keeper.level = 8
+        self.keeper.setLevel(8)
         self.logger.handle(self.yard.make_record("a", 50, "m"))
         self.assertEqual(self.keeper.records, [other])
 
 
 class LastResort(WithYard):
+    def told(self):
+        return self.yard.text("stderr")
+
     def test_from_thirty_on_where_no_handler_is_reached(self):
         self.root.setLevel(1)
         for level in (1, 29, 30, 31, 50):
-            self.yard.getLogger("a").log(level, "m")
-        self.assertEqual([record.levelno for record in self.yard.last.records], [30, 31, 50])
+            self.yard.getLogger("a").log(level, "m{}", (level,))
+        self.assertEqual(self.told(), "m30\nm31\nm50\n")
+        self.assertEqual((self.yard.streams(), self.yard.files(), self.yard.getHandlerNames()), (["stderr"], {}, []))
 
     def test_by_handle_too(self):
         for level in (29, 30):
-            self.root.handle(self.yard.make_record("x", level, "m"))
-        self.assertEqual([record.name for record in self.yard.last.records], ["x"])
+            self.root.handle(self.yard.make_record("x", level, str(level)))
+        self.assertEqual(self.told(), "30\n")
+
+    def test_a_message_that_cannot_be_made_is_a_failure(self):
+        self.yard.getLogger("a.b").error("{", (1,))
+        self.assertEqual((self.told(), self.yard.failures()), ("", [("a.b", "message")]))
 
     def test_a_handler_whose_level_is_too_high_is_one_all_the_same(self):
-        self.root.addHandler(Keeper(100))
+        self.root.addHandler(keeper(self.yard, 100))
         self.yard.getLogger("a").error("m")
-        self.assertEqual(self.yard.last.records, [])
+        self.assertEqual(self.told(), "")
+
+    def test_a_handler_whose_filters_hold_back_is_one_all_the_same(self):
+        self.root.addHandler(keeper(self.yard))
+        self.root.handlers[0].addFilter(Filter("b"))
+        self.yard.getLogger("a").error("m")
+        self.assertEqual(self.told(), "")
 
     def test_handlers_behind_one_that_does_not_propagate_do_not_count(self):
-        self.root.addHandler(Keeper())
+        self.root.addHandler(keeper(self.yard))
         one = self.yard.getLogger("a")
         one.setPropagate(False)
         one.error("m")
-        self.assertEqual((len(self.yard.last.records), self.root.handlers[0].records), (1, []))
+        self.assertEqual((self.told(), self.root.handlers[0].records), ("m\n", []))
         one.setPropagate(True)
-        one.error("m")
-        self.assertEqual((len(self.yard.last.records), len(self.root.handlers[0].records)), (1, 1))
+        one.error("n")
+        self.assertEqual((self.told(), len(self.root.handlers[0].records)), ("m\n", 1))
 
     def test_handlers_of_others_do_not_count(self):
-        self.yard.getLogger("a.b").addHandler(Keeper())
-        self.yard.getLogger("b").addHandler(Keeper())
+        self.yard.getLogger("a.b").addHandler(keeper(self.yard))
+        self.yard.getLogger("b").addHandler(keeper(self.yard))
         self.yard.getLogger("a").error("m")
-        self.assertEqual(len(self.yard.last.records), 1)
+        self.assertEqual(self.told(), "m\n")
 
     def test_not_for_what_is_held_back(self):
         one = self.yard.getLogger("a")
         one.addFilter(Filter("b"))
         one.error("m")
-        self.yard.tree.disable(40)
+        self.yard.disable(40)
         self.root.error("m")
         other = self.yard.getLogger("c")
         other.setDisabled(True)
         other.critical("m")
         other.handle(self.yard.make_record("x", 50, "m"))
-        self.assertEqual(self.yard.last.records, [])
+        self.assertEqual(self.told(), "")
 
     def test_the_level_is_that_of_the_record_that_took_the_place(self):
-        low, high = self.yard.make_record("x", 29, "m"), self.yard.make_record("x", 30, "m")
+        low, high = self.yard.make_record("x", 29, "low"), self.yard.make_record("x", 30, "high")
         one, other = self.get("a", "b")
         one.addFilter(lambda record: low)
         one.critical("m")
         other.addFilter(lambda record: high)
         other.handle(low)
-        self.assertEqual(self.yard.last.records, [high])
+        self.assertEqual(self.told(), "high\n")
+
+    def test_it_outlasts_a_shutdown(self):
+        self.root.error("m")
+        self.yard.shutdown()
+        self.root.error("n")
+        self.assertEqual(self.told(), "m\nn\n")
+
+    def test_it_is_the_yards_own(self):
+        other = Yard()
+        self.root.error("m")
+        self.assertEqual(other.text("stderr"), "")
