@@ -48,12 +48,23 @@ def date_of(day):
     return year, month, left + 1
 
 
-def time_text(milliseconds):
-    """The time as the field asctime shows it."""
-    seconds = milliseconds // 1000
-    beyond = milliseconds % 1000
+def date_text(seconds):
+    """The date of a time, with lines between its parts."""
     year, month, day = date_of(seconds // SECONDS_OF_DAY)
+    return f"{year:04d}-{month:02d}-{day:02d}"
+
+
+def hours_text(seconds, sign):
+    """The time of day of a time, with a sign between its parts."""
     hour = seconds // 3600 % 24
     minute = seconds // 60 % 60
     second = seconds % 60
-    return f"{year:04d}-{month:02d}-{day:02d} {hour:02d}:{minute:02d}:{second:02d},{beyond:03d}"
+    return f"{hour:02d}{sign}{minute:02d}{sign}{second:02d}"
+
+
+def time_text(milliseconds):
+    """The time as the field asctime shows it."""
+    seconds = milliseconds // 1000
+    hours = hours_text(seconds, ":")
+    beyond = milliseconds % 1000
+    return f"{date_text(seconds)} {hours},{beyond:03d}"

@@ -2,7 +2,10 @@
 
 from recordyard.files import FileHandler
 from recordyard.handlers import NullHandler, StreamHandler
+from recordyard.memory import MemoryHandler
+from recordyard.queues import Queue, QueueHandler
 from recordyard.rotating import RotatingFileHandler
+from recordyard.timed import TimedRotatingFileHandler
 
 
 class Asked:
@@ -46,7 +49,8 @@ def one_of_each(yard):
     """A new handler of each class; the files are called by the numbers of the handlers."""
     return [
         StreamHandler(yard), NullHandler(yard), FileHandler(yard, "f2"), FileHandler(yard, "f3", "w", True),
-        RotatingFileHandler(yard, "f4", "w"), RotatingFileHandler(yard, "f5", "a", 50, 2, True),
+        RotatingFileHandler(yard, "f4", "w"), RotatingFileHandler(yard, "f5", "a", 50, 2, True), TimedRotatingFileHandler(yard, "f6"),
+        MemoryHandler(yard, 0), MemoryHandler(yard, 2, 20, StreamHandler(yard, "s8"), False), QueueHandler(yard, Queue()),
     ]
 
 

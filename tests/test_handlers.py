@@ -8,6 +8,7 @@ from recordyard.filters import Filter
 from recordyard.formatters import Formatter
 from recordyard.handlers import NullHandler, StreamHandler
 from recordyard.rotating import RotatingFileHandler
+from recordyard.timed import TimedRotatingFileHandler
 from recordyard.yards import Yard
 from tests.helpers import Asked, one_of_each
 
@@ -23,7 +24,7 @@ class WithYard(unittest.TestCase):
         """New handlers that write what they emit at once, each with a function that tells what it wrote."""
         handlers = [
             StreamHandler(self.yard, "out"), FileHandler(self.yard, "log1"), FileHandler(self.yard, "log2", "w", True),
-            RotatingFileHandler(self.yard, "log3", "w"),
+            RotatingFileHandler(self.yard, "log3", "w"), TimedRotatingFileHandler(self.yard, "log4"),
         ]
         out = [(handlers[0], lambda: self.yard.text("out"))]
         for handler in handlers[1:]:

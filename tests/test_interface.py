@@ -9,6 +9,7 @@ import unittest
 from recordyard.adapters import LoggerAdapter
 from recordyard.filters import Filter
 from recordyard.formatters import Formatter
+from recordyard.queues import Queue, QueueListener
 from recordyard.yards import Yard
 from tests.helpers import one_of_each
 
@@ -53,6 +54,19 @@ INTERFACE = {
         **HANDLING, "__init__": "(self, yard, filename, mode='a', maxBytes=0, backupCount=0, delay=False)",
         "shouldRollover": "(self, record)", "doRollover": "(self)", "setNamer": "(self, function)",
     }},
+    "timed": {"TimedRotatingFileHandler": {
+        **HANDLING, "__init__": "(self, yard, filename, when='H', interval=1, backupCount=0, delay=False)",
+        "shouldRollover": "(self, record)", "doRollover": "(self)", "getFilesToDelete": "(self)",
+    }},
+    "memory": {"MemoryHandler": {
+        **HANDLING, "__init__": "(self, yard, capacity, flushLevel=40, target=None, flushOnClose=True)", "buffer": "(self)",
+        "shouldFlush": "(self, record)", "setTarget": "(self, target)",
+    }},
+    "queues": {
+        "Queue": {"__init__": "(self)", "put": "(self, record)", "get": "(self)", "__len__": "(self)"},
+        "QueueHandler": {**HANDLING, "__init__": "(self, yard, queue)"},
+        "QueueListener": {"__init__": "(self, queue, handlers, respect_handler_level=False)", "run": "(self, many=None)"},
+    },
 }
 COMMON = ["yard", "level", "formatter", "filters", "name", "terminator"]
 ATTRIBUTES = {
@@ -65,6 +79,9 @@ ATTRIBUTES = {
     "NullHandler": COMMON,
     "FileHandler": COMMON + ["filename"],
     "RotatingFileHandler": COMMON + ["filename"],
+    "TimedRotatingFileHandler": COMMON + ["filename", "rolloverAt"],
+    "MemoryHandler": COMMON,
+    "QueueHandler": COMMON + ["queue", "listener"],
 }
 
 
@@ -98,7 +115,7 @@ class Interface(unittest.TestCase):
                 self.assertIn(name, vars(thing))
 
     def test_objects_are_equal_only_to_themselves(self):
-        for thing in self.things() + [Formatter()]:
+        for thing in self.things() + [Formatter(), Queue(), QueueListener(Queue(), [])]:
             self.assertIs(type(thing).__eq__, object.__eq__)
 
     def test_modules_do_not_import_one_another_in_a_circle(self):

@@ -26,7 +26,7 @@ BUILTINS = set(
 METHODS = set(
     "append clear copy count endswith extend find get index insert isalnum isalpha isdigit islower isspace isupper items join keys "
     "ljust lower lstrip partition pop remove replace reverse rfind rjust rpartition rsplit rstrip setdefault split splitlines "
-    "startswith strip update upper values zfill bit_length removeprefix removesuffix add discard".split()
+    "startswith strip update upper values zfill bit_length removeprefix removesuffix isascii add discard".split()
 )
 BARRED_WORDS = set(
     "type typing typing_extensions enum Enum IntEnum StrEnum Flag IntFlag Generic Protocol ABC ABCMeta namedtuple NamedTuple "

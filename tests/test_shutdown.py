@@ -4,9 +4,12 @@ import unittest
 
 from recordyard.files import FileHandler
 from recordyard.handlers import NullHandler, StreamHandler
+from recordyard.memory import MemoryHandler
+from recordyard.queues import Queue, QueueHandler, QueueListener
 from recordyard.rotating import RotatingFileHandler
+from recordyard.timed import TimedRotatingFileHandler
 from recordyard.yards import Yard
-from tests.helpers import one_of_each
+from tests.helpers import keeper, one_of_each
 
 
 class Shutdown(unittest.TestCase):
@@ -81,3 +84,96 @@ class Shutdown(unittest.TestCase):
         self.yard.advance(5)
         self.yard.getLogger("a").error("m")
         self.assertEqual((self.yard.now(), self.yard.loggers(), self.yard.text("stderr")), (5, ["a"], "m\n"))
+
+
+class Memories(unittest.TestCase):
+    def setUp(self):
+        self.yard = Yard()
+
+    def memory(self, target, message, flushes=True):
+        """A memory that keeps one record."""
+        handler = MemoryHandler(self.yard, 100, 40, target, flushes)
+        handler.handle(self.yard.make_record("a", 20, message))
+        return handler
+
+    def test_the_one_that_was_made_last_is_closed_first(self):
+        target = StreamHandler(self.yard, "out")
+        for message in "abc":
+            self.memory(target, message)
+        self.yard.shutdown()
+        self.assertEqual(self.yard.text("out"), "c\nb\na\n")
+
+    def test_a_target_that_was_made_ahead_is_not_closed_yet(self):
+        for make in (
+            lambda: FileHandler(self.yard, "log", "w"), lambda: FileHandler(self.yard, "log", "w", True),
+            lambda: RotatingFileHandler(self.yard, "log", "w"), lambda: TimedRotatingFileHandler(self.yard, "log"),
+        ):
+            self.setUp()
+            self.memory(make(), "m")
+            self.yard.shutdown()
+            self.assertEqual(self.yard.files(), {"log": "m\n"})
+
+    def test_a_target_that_was_made_behind_is_closed_already(self):
+        for make, told in (
+            (lambda: FileHandler(self.yard, "log", "w"), ""), (lambda: FileHandler(self.yard, "log", "w", True), "before\n"),
+            (lambda: FileHandler(self.yard, "log"), "before\nm\n"), (lambda: RotatingFileHandler(self.yard, "log", "w"), "m\n"),
+            (lambda: RotatingFileHandler(self.yard, "log", "w", 9, 2), "m\n"), (lambda: TimedRotatingFileHandler(self.yard, "log"), "before\nm\n"),
+        ):
+            self.setUp()
+            self.yard.put_file("log", "before\n")
+            memory = self.memory(None, "m")
+            memory.setTarget(make())
+            self.yard.shutdown()
+            self.assertEqual((self.yard.files()["log"], memory.buffer()), (told, []))
+
+    def test_a_row_of_memories_made_from_its_end(self):
+        target = keeper(self.yard)
+        third = self.memory(target, "c")
+        second = self.memory(third, "b")
+        first = self.memory(second, "a")
+        self.yard.shutdown()
+        self.assertEqual([record.msg for record in target.records], ["c", "b", "a"])
+        self.assertEqual([handler.buffer() for handler in (first, second, third)], [[], [], []])
+
+    def test_a_row_of_memories_made_from_its_beginning(self):
+        first, second, third = [self.memory(None, message) for message in "abc"]
+        target = keeper(self.yard)
+        third.setTarget(target)
+        second.setTarget(third)
+        first.setTarget(second)
+        self.yard.shutdown()
+        # Each one is closed, and has no target any more, when the one ahead of it hands its records on.
+        self.assertEqual([record.msg for record in target.records], ["c"])
+        self.assertEqual([[record.msg for record in handler.buffer()] for handler in (first, second, third)], [[], ["a"], ["b"]])
+
+    def test_without_flush_on_close(self):
+        target = keeper(self.yard)
+        memory = self.memory(target, "m", False)
+        self.yard.shutdown()
+        memory.flush()
+        self.assertEqual((target.records, len(memory.buffer())), ([], 1))
+
+    def test_one_that_was_closed_already_is_not_flushed(self):
+        target = keeper(self.yard)
+        memory = self.memory(None, "m")
+        memory.close()
+        memory.setTarget(target)
+        self.yard.shutdown()
+        self.yard.shutdown()
+        self.assertEqual((target.records, len(memory.buffer())), ([], 1))
+        memory.close()
+        self.assertEqual((len(target.records), memory.buffer()), (1, []))
+
+    def test_failures_on_the_way(self):
+        self.memory(StreamHandler(self.yard, "out"), "m")
+        memory = MemoryHandler(self.yard, 100, 40, StreamHandler(self.yard, "out"))
+        memory.handle(self.yard.make_record("bad", 20, "{", (1,)))
+        self.assertIsNone(self.yard.shutdown())
+        self.assertEqual((self.yard.text("out"), self.yard.failures()), ("m\n", [("bad", "message")]))
+
+    def test_queues_keep_their_records(self):
+        queue = Queue()
+        target = keeper(self.yard)
+        self.memory(QueueHandler(self.yard, queue), "m")
+        self.yard.shutdown()
+        self.assertEqual((len(queue), QueueListener(queue, [target]).run()), (1, 1))
