@@ -6,6 +6,11 @@ from recordyard.kinds import DIGITS, is_integer, leading_name
 ALIGNS = ("<", ">", "^")
 
 
+def is_style(thing):
+    """Whether thing is a style of formats."""
+    return thing == "{" or thing == "$"
+
+
 class Field:
     """A place in a format for a value: way is r, s or empty; align and width 0 may be missing."""
 

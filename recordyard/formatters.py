@@ -1,7 +1,7 @@
 """Formatters: the class of the objects that make lines of records."""
 
 from recordyard.errors import BadField, BadFormat, BadStyle
-from recordyard.formats import Field, brace_pieces, dollar_pieces, joined
+from recordyard.formats import Field, brace_pieces, dollar_pieces, is_style, joined
 from recordyard.kinds import own_copy
 from recordyard.times import time_text
 
@@ -10,7 +10,7 @@ class Formatter:
     """Makes texts of records by a format; pieces are the texts and fields of which this consists."""
 
     def __init__(self, fmt=None, style="{", validate=True, defaults=None):
-        if style != "{" and style != "$":
+        if not is_style(style):
             raise BadStyle(style)
         self.pieces = pieces_of(fmt, style)
         self.defaults = {} if defaults is None else own_copy(defaults)

@@ -24,6 +24,11 @@ def is_dotted(thing):
     return isinstance(thing, str) and all(is_part(part) for part in thing.split("."))
 
 
+def is_logger_name(thing):
+    """Whether thing is a name of a logger, also one of the root's."""
+    return thing == "" or is_dotted(thing)
+
+
 def leading_name(text):
     """The longest name of a field with which text begins, or an empty string."""
     end = 0

@@ -43,10 +43,17 @@ class LevelTable:
         """The dict from names to numbers."""
         return dict(self.numbers)
 
+    def knows(self, level):
+        """Whether level may be passed as a level: a number, or a name of one."""
+        return is_integer(level) or (isinstance(level, str) and level in self.numbers)
+
     def number(self, level):
         """The number for which a level stands that is passed as one or by its name."""
-        if is_integer(level):
-            return level
-        if isinstance(level, str) and level in self.numbers:
-            return self.numbers[level]
-        raise BadLevel(level)
+        if not self.knows(level):
+            raise BadLevel(level)
+        return level if is_integer(level) else self.numbers[level]
+
+    def stand_as(self, other):
+        """Tell of levels what another table tells."""
+        self.names = dict(other.names)
+        self.numbers = dict(other.numbers)

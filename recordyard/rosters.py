@@ -22,6 +22,10 @@ class Roster:
         if name in self.leading:
             del self.leading[name]
 
+    def free_all(self):
+        """Let all names lead to none."""
+        self.leading = {}
+
     def led_to(self, name):
         """The handler to which a name leads, or None."""
         return self.leading.get(name)
@@ -37,6 +41,10 @@ class Roster:
     def failures(self):
         """The failures, in the order in which they were kept."""
         return list(self.failed)
+
+    def keep_failures(self, failures):
+        """Keep these failures, and no others."""
+        self.failed = list(failures)
 
     def close_all(self):
         """Close the handlers that have not been closed, the youngest one first."""

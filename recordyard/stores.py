@@ -66,6 +66,10 @@ class Store:
         """The time of a text that is there."""
         return self.kept[name].time
 
+    def stand_as(self, other):
+        """Keep what another store keeps, with the same times."""
+        self.kept = {name: Written(other.text(name), other.time_of(name)) for name in other.all_names()}
+
     def all_names(self):
         """The names, ascending."""
         return sorted(self.kept)

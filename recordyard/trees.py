@@ -1,9 +1,11 @@
 """The tree of a yard's loggers, with what they need of the yard."""
 
 from recordyard.errors import BadName
-from recordyard.kinds import is_dotted
+from recordyard.kinds import is_logger_name
 from recordyard.levels import NOTSET, WARNING
 from recordyard.loggers import Logger
+
+ROOT_NAMES = ("", "root")
 
 
 class LoggerTree:
@@ -24,10 +26,10 @@ class LoggerTree:
 
     def getLogger(self, name=""):
         """The logger of this name, which is made if there is none."""
-        if name == "" or name == "root":
-            return self.root
-        if not is_dotted(name):
+        if not is_logger_name(name):
             raise BadName(name)
+        if name in ROOT_NAMES:
+            return self.root
         if name not in self.named:
             self.grow(name)
         return self.named[name]
@@ -54,6 +56,10 @@ class LoggerTree:
     def loggers(self):
         """The names of the loggers that there are, ascending, without the root's."""
         return sorted(self.named)
+
+    def roll(self):
+        """All loggers, each behind its name: first the root, whose name is empty here, then ascending."""
+        return [("", self.root)] + [(logger.name, logger) for logger in self.made()]
 
     def disable(self, level=50):
         """Set the bar: no record is made up to this level."""

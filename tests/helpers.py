@@ -57,3 +57,30 @@ def one_of_each(yard):
 def not_integers():
     """The objects that are no integers."""
     return [thing for thing in objects() if type(thing) is not int]
+
+
+def all_loggers(yard):
+    """All loggers of a yard, the root first, the others ascending."""
+    return [yard.root] + [yard.getLogger(name) for name in yard.loggers()]
+
+
+def standing(yard):
+    """What a yard tells of itself: equal for two moments just if nothing was changed between."""
+    loggers = [
+        (one.name, one.level, one.propagate, one.disabled, list(one.handlers), list(one.filters), one.parent) for one in all_loggers(yard)
+    ]
+    handlers = []
+    for one in {handler: None for logger in all_loggers(yard) for handler in logger.handlers} | {
+        yard.getHandlerByName(name): None for name in yard.getHandlerNames()
+    }:
+        handlers.append((one, one.level, one.formatter, list(one.filters), one.name, one.terminator))
+        for name in ("stream", "filename", "rolloverAt", "queue", "listener"):
+            handlers.append(getattr(one, name, None))
+        if isinstance(one, MemoryHandler):
+            handlers.append(one.buffer())
+        if isinstance(one, QueueHandler):
+            handlers.append(len(one.queue))
+    names = {name: yard.getHandlerByName(name) for name in yard.getHandlerNames()}
+    streams = {name: yard.text(name) for name in yard.streams()}
+    numbers = [yard.level_name(level) for level in range(-5, 105)]
+    return (yard.now(), streams, yard.files(), yard.level_names(), numbers, yard.bar(), loggers, handlers, names, yard.failures())

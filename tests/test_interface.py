@@ -68,6 +68,18 @@ INTERFACE = {
         "QueueListener": {"__init__": "(self, queue, handlers, respect_handler_level=False)", "run": "(self, many=None)"},
     },
 }
+FUNCTIONS = {
+    "settings": {"wrong": "(yard, settings)", "configure": "(yard, settings)"},
+    "copies": {"copied": "(yard)"},
+    "judging": {"offence": "(yard)", "outcome": "(yard, record)"},
+    "tables": {
+        "mentions": "(yards)", "bounds": "(yards)", "table": "(yard, names, levels)", "told_by": "(rows, record)",
+    },
+    "differences": {"difference": "(one, other)", "alike": "(one, other)"},
+    "changes": {"laid": "(yard, settings)", "change": "(yard, settings)", "swapped": "(yard, one, two)"},
+    "deeds": {"deeds": "(yard)", "done": "(yard, deed)", "idle": "(yard)"},
+    "overlays": {"overlay": "(yard, goal)", "overlaid": "(entries)"},
+}
 COMMON = ["yard", "level", "formatter", "filters", "name", "terminator"]
 ATTRIBUTES = {
     "LogRecord": ["name", "levelno", "levelname", "msg", "given", "created", "extra"],
@@ -101,6 +113,18 @@ class Interface(unittest.TestCase):
                 for method, told in methods.items():
                     self.assertIn(method, vars(listed))
                     self.assertEqual(str(inspect.signature(vars(listed)[method])), told, name + "." + method)
+
+    def test_each_function_stands_where_it_is_listed(self):
+        for module, functions in FUNCTIONS.items():
+            for name, told in functions.items():
+                listed = getattr(importlib.import_module("recordyard." + module), name)
+                self.assertEqual(listed.__module__, "recordyard." + module)
+                self.assertEqual(str(inspect.signature(listed)), told, name)
+
+    def test_constants(self):
+        levels = importlib.import_module("recordyard.levels")
+        told = [getattr(levels, name) for name in ("CRITICAL", "ERROR", "WARNING", "INFO", "DEBUG", "NOTSET")]
+        self.assertEqual(told, [50, 40, 30, 20, 10, 0])
 
     def things(self):
         yard = Yard()
