@@ -267,6 +267,13 @@ class Handlers(Copies):
         self.assertEqual(other.files(), {"late": "two\n", "w": "one\ntwo\n"})
         self.assertEqual(self.yard.files(), {"late": "old ", "w": "one\n"})
 
+    def test_files_that_are_not_there_are_not_made(self):
+        for delay in (True, False):
+            for make in (FileHandler, RotatingFileHandler, TimedRotatingFileHandler):
+                self.yard.root.addHandler(make(self.yard, "log", delay=delay))
+                self.yard.remove_file("log")
+                self.assertEqual((self.copied().files(), self.yard.files()), ({}, {}))
+
     def test_rotating_files_of_the_mode_w(self):
         handler = RotatingFileHandler(self.yard, "log", "w")
         self.yard.root.addHandler(handler)

@@ -327,6 +327,22 @@ class Names(Differences):
         two.getLogger("a.a").setDisabled(True)
         self.check(one, two, ("zzzz", 20, ""))
 
+    def test_the_least_of_several_names(self):
+        one = writing("x")
+        one.getLogger("a").setDisabled(True)
+        other = copied(one)
+        other.getLogger("x.y").setDisabled(True)
+        self.check(one, other, ("x.y", 20, ""))
+        # The names below a come ahead of the one that is mentioned.
+        other.getLogger("a").setLevel(25)
+        self.check(one, other, ("a.a", 20, ""))
+        other.getLogger("zz").setDisabled(True)
+        self.check(one, other, ("zz", 20, ""))
+        other.getLogger("m").setLevel(40)
+        self.check(one, other, ("m", 20, ""))
+        other.root.setLevel(10)
+        self.check(one, other, ("", 10, ""))
+
     def test_a_name_below_one_that_is_mentioned_by_a_filter(self):
         one = yard_with({"filters": ["m.n"]})
         self.altered(one, lambda yard: yard.root.handlers[0].addFilter(Filter("m.n.o")), ("m.n", 20, ""))

@@ -232,6 +232,9 @@ class Handlers(Laid):
         self.assertEqual(self.yard.text("out"), "eb ea wb ")
         self.assertEqual(self.handler("p").listener.run(many=1), 1)
         self.assertEqual(self.yard.text("out"), "eb ea wb eb ea ")
+        # Without respect_handler_level the level of a does not matter.
+        self.assertEqual(self.handler("p").listener.run(), 1)
+        self.assertEqual(self.yard.text("out"), "eb ea wb eb ea wb wa ")
 
     def test_formatters_and_filters_of_an_id_are_the_same(self):
         self.lay(
@@ -337,6 +340,13 @@ class Earlier(Laid):
         closed.handle(self.yard.make_record("a", 20, "m"))
         self.lay()
         self.assertEqual((len(closed.buffer()), self.yard.text("out")), (1, ""))
+
+    def test_names_that_were_given_behind_closing(self):
+        closed = StreamHandler(self.yard)
+        closed.close()
+        closed.setName("x")
+        self.lay()
+        self.assertEqual((self.yard.getHandlerNames(), closed.name), ([], "x"))
 
     def test_failures_streams_and_names_of_levels_stay(self):
         self.yard.root.addHandler(StreamHandler(self.yard, "out"))

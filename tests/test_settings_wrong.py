@@ -356,7 +356,7 @@ class Incremental(Wrong):
 
     def test_all_other_keys_are_passed_over(self):
         self.step(None, formatters={"f": 5, "g": {"format": "{"}}, filters={"u": None}, disable_existing_loggers=True)
-        self.step(None, handlers={"h": {"class": 5, "x": 1, "formatter": []}}, loggers={"a": {"handlers": 5, "filters": ["u"], "y": 0}})
+        self.step(None, handlers={"h": {"class": 5, "x": 1, "formatter": [], "propagate": 5}}, loggers={"a": {"handlers": 5, "filters": ["u"], "y": 0}})
         self.step(None, root={"handlers": ["none"], "x": 1})
         self.step(("formatters",), formatters=[])
 
